@@ -1,0 +1,1 @@
+"""Whistlebook: referees for the rounds of a season, and who steps in."""

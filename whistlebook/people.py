@@ -1,0 +1,42 @@
+"""The roster: the referees, each with a grade and a club."""
+
+from whistlebook.errors import KnownReferee, OutOfRange, TooManyReferees, UnknownReferee
+from whistlebook.sizes import MOST_CLUB, MOST_GRADE, MOST_NUMBER, MOST_REFEREES
+
+
+def check_range(value, most):
+    if value < 1 or value > most:
+        raise OutOfRange(f"{value} does not lie from 1 to {most}")
+
+
+class Roster:
+    def __init__(self):
+        # A dict keeps the order in which its keys came: that is the order of adding.
+        self.entries = {}
+
+    def add(self, number, grade, club):
+        check_range(number, MOST_NUMBER)
+        check_range(grade, MOST_GRADE)
+        check_range(club, MOST_CLUB)
+        if number in self.entries:
+            raise KnownReferee(f"referee {number} is on the roster already")
+        if len(self.entries) >= MOST_REFEREES:
+            raise TooManyReferees(f"there are {MOST_REFEREES} referees on the roster already")
+        self.entries[number] = (grade, club)
+
+    def has(self, number):
+        return number in self.entries
+
+    def numbers(self):
+        return list(self.entries)
+
+    def grade(self, number):
+        return self.entry(number)[0]
+
+    def club(self, number):
+        return self.entry(number)[1]
+
+    def entry(self, number):
+        if number not in self.entries:
+            raise UnknownReferee(f"referee {number} is not on the roster")
+        return self.entries[number]
