@@ -1,12 +1,8 @@
 """The roster: the referees, each with a grade and a club."""
 
-from whistlebook.errors import KnownReferee, OutOfRange, TooManyReferees, UnknownReferee
+from whistlebook.errors import KnownReferee, TooManyReferees, UnknownReferee
+from whistlebook.ranges import check_range
 from whistlebook.sizes import MOST_CLUB, MOST_GRADE, MOST_NUMBER, MOST_REFEREES
-
-
-def check_range(value, most):
-    if value < 1 or value > most:
-        raise OutOfRange(f"{value} does not lie from 1 to {most}")
 
 
 class Roster:
