@@ -152,3 +152,44 @@ def fewest_steps(may, given, place):
                         steps[then] = steps[here] + 1
                         changed = True
     return steps
+
+
+def keeps_point_13(may, given, place, steps):
+    """Whether these steps may be told, also for inputs that are too great to go through all chains."""
+    if not is_chain(may, given, place, steps):
+        return False
+    fewest = fewest_steps(may, given, place)
+    with_free = [
+        fewest[reached] for reached in fewest
+        if any(number not in given for number in may[reached])
+    ]
+    if with_free:
+        return steps[-1][1] is not None and len(steps) == min(with_free)
+    return steps[-1] == (max(fewest), None) and len(steps) == fewest[max(fewest)]
+
+
+def apart(one, other):
+    """At how many places two fillings differ."""
+    return sum(ours != theirs for ours, theirs in zip(one, other))
+
+
+def fewest_apart(may, given):
+    """At how few places a weightiest filling can differ from a given one."""
+    best = weightiest_of_all(may)
+    return min(apart(given, rival) for rival in all_fillings(may) if filled(rival) == best)
+
+
+def is_shortage(may, given, told):
+    """Point 11, word by word."""
+    if type(told) is not tuple or [type(part) for part in told] != [list, list]:
+        return False
+    places, referees = told
+    left = given.count(None)
+    if left == 0:
+        return told == ([], [])
+    return (
+        all(0 <= place < len(may) for place in places)
+        and places == sorted(set(places))
+        and referees == sorted({number for place in places for number in may[place]})
+        and len(places) - len(referees) == left
+    )

@@ -3,7 +3,8 @@
 import unittest
 
 from oracles import (
-    Dice, all_fillings, all_mays, copied, fewest_steps, filled, is_chain, is_filling, promised_chains, weightiest_of_all,
+    Dice, all_fillings, all_mays, apart, copied, fewest_apart, filled, is_chain, is_filling, keeps_point_13,
+    promised_chains, weightiest_of_all,
 )
 from whistlebook.chains import chain, stepped
 from whistlebook.filling import fill
@@ -38,17 +39,7 @@ class ChainCase(unittest.TestCase):
     def assert_shortest(self, may, given, place):
         """Point 13 for inputs that are too great to go through all chains."""
         steps = self.told(may, given, place)
-        fewest = fewest_steps(may, given, place)
-        with_free = [
-            fewest[reached] for reached in fewest
-            if any(number not in given for number in may[reached])
-        ]
-        if with_free:
-            self.assertIsNotNone(steps[-1][1])
-            self.assertEqual(len(steps), min(with_free))
-        else:
-            self.assertEqual(steps[-1], (max(fewest), None))
-            self.assertEqual(len(steps), fewest[max(fewest)])
+        self.assertTrue(keeps_point_13(may, given, place, steps), (may, given, place, steps))
 
 
 class FreeRefereeTest(ChainCase):
@@ -314,13 +305,8 @@ class FallingOutTest(unittest.TestCase):
         gap[place] = None
         behind = stepped(gap, chain(fewer, gap, place))
         self.assertTrue(is_filling(fewer, behind))
-        best = weightiest_of_all(fewer)
-        self.assertEqual(filled(behind), best)
-        apart = [
-            sum(one != other for one, other in zip(ahead, rival))
-            for rival in all_fillings(fewer) if filled(rival) == best
-        ]
-        self.assertEqual(sum(one != other for one, other in zip(ahead, behind)), min(apart))
+        self.assertEqual(filled(behind), weightiest_of_all(fewer))
+        self.assertEqual(apart(ahead, behind), fewest_apart(fewer, ahead))
 
 
 class ApartTest(unittest.TestCase):

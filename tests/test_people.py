@@ -176,6 +176,39 @@ class OrderOfRefusalsTest(RosterCase):
                 self.assert_refused(roster, OutOfRange, 900, grade, club)
 
 
+class StrikeTest(RosterCase):
+    def test_one_who_is_struck_off_is_unknown_and_leaves_the_others(self):
+        roster = roster_of((7, 2, 3), (5, 4, 6), (9, 1, 1))
+        self.assertIsNone(roster.strike(5))
+        self.assertEqual(everything(roster), ([7, 9], [(7, 2, 3), (9, 1, 1)]))
+        with self.assertRaises(UnknownReferee):
+            roster.grade(5)
+        roster.add(5, 8, 8)
+        self.assertEqual(roster.numbers(), [7, 9, 5])
+
+    def test_room_is_made_for_another(self):
+        roster = roster_of(*full_people())
+        roster.strike(900)
+        roster.add(1, 5, 50)
+        self.assertEqual(len(roster.numbers()), 30)
+
+
+class PersonTest(RosterCase):
+    def test_number_grade_and_club(self):
+        self.assertEqual(roster_of((7, 2, 3), (5, 4, 6)).person(5), (5, 4, 6))
+
+    def test_an_unknown_one(self):
+        with self.assertRaises(UnknownReferee):
+            roster_of((7, 2, 3)).person(2)
+
+    def test_a_check_of_a_new_one_adds_nobody(self):
+        roster = roster_of((7, 2, 3))
+        before = everything(roster)
+        self.assertIsNone(roster.check_new(5, 4, 6))
+        self.assertIsNone(roster.check_known(7))
+        self.assertEqual(everything(roster), before)
+
+
 class ApartTest(RosterCase):
     def test_a_told_list_that_is_changed_changes_nothing(self):
         roster = roster_of((7, 2, 3), (5, 4, 6))

@@ -13,9 +13,9 @@ def check_count(matches):
 
 def check_ranges(matches):
     for home, guest, grade in matches:
-        check_range(home, MOST_CLUB)
-        check_range(guest, MOST_CLUB)
-        check_range(grade, MOST_GRADE)
+        check_range(home, 1, MOST_CLUB)
+        check_range(guest, 1, MOST_CLUB)
+        check_range(grade, 1, MOST_GRADE)
 
 
 def check_clubs(matches):

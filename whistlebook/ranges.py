@@ -3,6 +3,6 @@
 from whistlebook.errors import OutOfRange
 
 
-def check_range(value, most):
-    if value < 1 or value > most:
-        raise OutOfRange(f"{value} does not lie from 1 to {most}")
+def check_range(value, least, most):
+    if value < least or value > most:
+        raise OutOfRange(f"{value} does not lie from {least} to {most}")
